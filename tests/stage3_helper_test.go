@@ -45,15 +45,20 @@ func nameByWords(s string) bool {
 	return s != "" && len(s) <= 12 && strings.Trim(s, letters) == ""
 }
 
+func goodLanesByWords(lanes []impl.Lane) bool {
+	wrong := len(lanes) > 4
+	for _, x := range lanes {
+		wrong = wrong || x.Length < 1 || x.Length > 5000 || x.Height < 100 || x.Height > 500
+	}
+	return !wrong
+}
+
 // goodSailingByWords is what chapter 3 calls a good sailing, by what is wrong with it.
 func goodSailingByWords(s impl.Sailing) bool {
 	wrong := s.Id < 1 || s.Id > 99 ||
 		!nameByWords(s.From) || !nameByWords(s.To) || s.From == s.To ||
 		s.Depart < 0 || s.Depart >= s.Arrive || s.Arrive > 10000 ||
-		len(s.Lanes) > 4 || len(s.Cabins) > 6 || s.Most < 0 || s.Most > 500
-	for _, x := range s.Lanes {
-		wrong = wrong || x.Length < 1 || x.Length > 5000 || x.Height < 100 || x.Height > 500
-	}
+		!goodLanesByWords(s.Lanes) || len(s.Cabins) > 6 || s.Most < 0 || s.Most > 500
 	for _, x := range s.Cabins {
 		wrong = wrong || x.Class < 1 || x.Class > 3 || x.Berths < 1 || x.Berths > 4
 	}

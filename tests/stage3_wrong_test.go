@@ -29,6 +29,15 @@ func textsThatAreNames() []string {
 	return []string{"a", "z", "A", "Z", "Oslo", "OSLO", "abcdefghijkl", "mnopqrstuvwx", "yzABCDEFGHIJ", "KLMNOPQRSTUV", "WXYZ"}
 }
 
+func lanesThatAreNotGood() map[string]impl.Lane {
+	return map[string]impl.Lane{
+		"nothing": {}, "length 0": {Length: 0, Height: 100}, "length below 0": {Length: -1, Height: 100}, "too long": {Length: 5001, Height: 100},
+		"too low": {Length: 1, Height: 99}, "too high": {Length: 1, Height: 501}, "height below 0": {Length: 1, Height: -100},
+		"the greatest length": {Length: math.MaxInt, Height: 100}, "the greatest height": {Length: 1, Height: math.MaxInt},
+		"the least length": {Length: math.MinInt, Height: 100}, "the least height": {Length: 1, Height: math.MinInt},
+	}
+}
+
 func sailingsThatAreNotGood() map[string]impl.Sailing {
 	all := map[string]impl.Sailing{
 		"nothing set":             {},
@@ -59,13 +68,7 @@ func sailingsThatAreNotGood() map[string]impl.Sailing {
 		all["From is "+name[:min(20, len(name))]+"."] = changed(func(s *impl.Sailing) { s.From = name })
 		all["To is "+name[:min(20, len(name))]+"."] = changed(func(s *impl.Sailing) { s.To = name })
 	}
-	lanes := map[string]impl.Lane{
-		"nothing": {}, "length 0": {Length: 0, Height: 100}, "length below 0": {Length: -1, Height: 100}, "too long": {Length: 5001, Height: 100},
-		"too low": {Length: 1, Height: 99}, "too high": {Length: 1, Height: 501}, "height below 0": {Length: 1, Height: -100},
-		"the greatest length": {Length: math.MaxInt, Height: 100}, "the greatest height": {Length: 1, Height: math.MaxInt},
-		"the least length": {Length: math.MinInt, Height: 100}, "the least height": {Length: 1, Height: math.MinInt},
-	}
-	for what, lane := range lanes {
+	for what, lane := range lanesThatAreNotGood() {
 		for at := range 3 {
 			all["lane "+string(rune('0'+at))+" has "+what] = changed(func(s *impl.Sailing) { s.Lanes[at] = lane })
 		}
