@@ -53,15 +53,20 @@ func goodLanesByWords(lanes []impl.Lane) bool {
 	return !wrong
 }
 
+func goodCabinsByWords(cabins []impl.Cabin) bool {
+	wrong := len(cabins) > 6
+	for _, x := range cabins {
+		wrong = wrong || x.Class < 1 || x.Class > 3 || x.Berths < 1 || x.Berths > 4
+	}
+	return !wrong
+}
+
 // goodSailingByWords is what chapter 3 calls a good sailing, by what is wrong with it.
 func goodSailingByWords(s impl.Sailing) bool {
 	wrong := s.Id < 1 || s.Id > 99 ||
 		!nameByWords(s.From) || !nameByWords(s.To) || s.From == s.To ||
 		s.Depart < 0 || s.Depart >= s.Arrive || s.Arrive > 10000 ||
-		!goodLanesByWords(s.Lanes) || len(s.Cabins) > 6 || s.Most < 0 || s.Most > 500
-	for _, x := range s.Cabins {
-		wrong = wrong || x.Class < 1 || x.Class > 3 || x.Berths < 1 || x.Berths > 4
-	}
+		!goodLanesByWords(s.Lanes) || !goodCabinsByWords(s.Cabins) || s.Most < 0 || s.Most > 500
 	return !wrong
 }
 

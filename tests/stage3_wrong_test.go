@@ -38,6 +38,15 @@ func lanesThatAreNotGood() map[string]impl.Lane {
 	}
 }
 
+func cabinsThatAreNotGood() map[string]impl.Cabin {
+	return map[string]impl.Cabin{
+		"nothing": {}, "class 0": {Class: 0, Berths: 1}, "class 4": {Class: 4, Berths: 1}, "class below 0": {Class: -1, Berths: 1},
+		"berths 0": {Class: 1, Berths: 0}, "berths 5": {Class: 1, Berths: 5}, "berths below 0": {Class: 1, Berths: -1},
+		"the greatest class": {Class: math.MaxInt, Berths: 1}, "the greatest of berths": {Class: 1, Berths: math.MaxInt},
+		"the least class": {Class: math.MinInt, Berths: 1}, "the least of berths": {Class: 1, Berths: math.MinInt},
+	}
+}
+
 func sailingsThatAreNotGood() map[string]impl.Sailing {
 	all := map[string]impl.Sailing{
 		"nothing set":             {},
@@ -73,13 +82,7 @@ func sailingsThatAreNotGood() map[string]impl.Sailing {
 			all["lane "+string(rune('0'+at))+" has "+what] = changed(func(s *impl.Sailing) { s.Lanes[at] = lane })
 		}
 	}
-	cabins := map[string]impl.Cabin{
-		"nothing": {}, "class 0": {Class: 0, Berths: 1}, "class 4": {Class: 4, Berths: 1}, "class below 0": {Class: -1, Berths: 1},
-		"berths 0": {Class: 1, Berths: 0}, "berths 5": {Class: 1, Berths: 5}, "berths below 0": {Class: 1, Berths: -1},
-		"the greatest class": {Class: math.MaxInt, Berths: 1}, "the greatest of berths": {Class: 1, Berths: math.MaxInt},
-		"the least class": {Class: math.MinInt, Berths: 1}, "the least of berths": {Class: 1, Berths: math.MinInt},
-	}
-	for what, cabin := range cabins {
+	for what, cabin := range cabinsThatAreNotGood() {
 		for at := range 3 {
 			all["cabin "+string(rune('0'+at))+" has "+what] = changed(func(s *impl.Sailing) { s.Cabins[at] = cabin })
 		}
