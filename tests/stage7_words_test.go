@@ -315,6 +315,11 @@ func manifestByWords(o impl.Office, id int) ([]impl.Row, bool) {
 	if !goodOfficeByWords(o) || at < 0 {
 		return nil, false
 	}
+	return rowsByWords(o, at), true
+}
+
+// rowsByWords goes by the seats: of each that has one there is a Booking.
+func rowsByWords(o impl.Office, at int) []impl.Row {
 	lanes, cabins := map[int]int{}, map[int]int{}
 	for _, x := range o.Loads[at].Stays {
 		lanes[x.By] = x.Lane
@@ -335,7 +340,7 @@ func manifestByWords(o impl.Office, id int) ([]impl.Row, bool) {
 		rows = append(rows, row)
 	}
 	slices.SortFunc(rows, func(a, b impl.Row) int { return a.Name - b.Name })
-	return rows, true
+	return rows
 }
 
 func roomLeftByWords(o impl.Office, id int) ([]int, []int, int, bool) {
